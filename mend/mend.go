@@ -38,12 +38,18 @@ func Wind(text string, x int, y int, d int) (int, bool, Errno, int) {
 	if d < 1 || d > maxPart || !within(x, maxProbe) || !within(y, maxProbe) {
 		return 0, false, ErrPoint, 0
 	}
-	turns, on := turnsAround(edgesOf(read.rings), pointAt(x, y), d)
+	turns, on := turnsAround(edgesOf(read.rings), nodeAt(pointAt(x, y), d))
 	return turns, on, OK, 0
 }
 
 // Nodes writes the points in which edges begin, end and meet (P7).
-func Nodes(text string) (string, Errno, int) { return "", OK, 0 }
+func Nodes(text string) (string, Errno, int) {
+	read, errno, place := readText(text)
+	if errno != OK {
+		return "", errno, place
+	}
+	return writeNodes(nodesOf(edgesOf(read.rings))), OK, 0
+}
 
 // Fix writes what a rule takes in, put right (P8 to P12).
 func Fix(text string, rule byte) (string, Errno, int) { return "", OK, 0 }

@@ -3,7 +3,6 @@ package mend_test
 import (
 	"math"
 	"math/rand"
-	"strconv"
 	"strings"
 	"testing"
 
@@ -167,8 +166,6 @@ func TestWindFarAndNear(t *testing.T) {
 	})
 }
 
-type dot struct{ x, y int }
-
 // sums follows the document's words: it adds up the turns of one who looks
 // from the point along all rings.
 func sums(rings [][]dot, x, y, d int) (int, bool) {
@@ -188,29 +185,12 @@ func sums(rings [][]dot, x, y, d int) (int, bool) {
 	return int(math.Round(angle / (2 * math.Pi))), false
 }
 
-func textOf(rings [][]dot) string {
-	var all []string
-	for _, ring := range rings {
-		var points []string
-		for _, p := range ring {
-			points = append(points, strconv.Itoa(p.x)+" "+strconv.Itoa(p.y))
-		}
-		all = append(all, "("+strings.Join(points, ",")+")")
-	}
-	return "POLYGON (" + strings.Join(all, ",") + ")"
-}
-
 func TestWindAgainstAngles(t *testing.T) {
 	source := rand.New(rand.NewSource(1))
 	seen := map[int]int{}
 	for range 3000 {
 		reach := 1 + source.Intn(6)
-		rings := make([][]dot, 1+source.Intn(4))
-		for i := range rings {
-			for range source.Intn(10) {
-				rings[i] = append(rings[i], dot{source.Intn(2*reach+1) - reach, source.Intn(2*reach+1) - reach})
-			}
-		}
+		rings := randomRings(source, reach)
 		text := textOf(rings)
 		for range 20 {
 			d := 1 + source.Intn(60)/(1+source.Intn(30))
