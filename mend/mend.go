@@ -52,7 +52,16 @@ func Nodes(text string) (string, Errno, int) {
 }
 
 // Fix writes what a rule takes in, put right (P8 to P12).
-func Fix(text string, rule byte) (string, Errno, int) { return "", OK, 0 }
+func Fix(text string, rule byte) (string, Errno, int) {
+	read, errno, place := readText(text)
+	if errno != OK {
+		return "", errno, place
+	}
+	if !isRule(rule) {
+		return "", ErrRule, 0
+	}
+	return writePolygons(boundaryOf(edgesOf(read.rings), rule).polygons()), OK, 0
+}
 
 // within compares on both sides, since the least int has no opposite.
 func within(value, bound int) bool {

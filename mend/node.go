@@ -60,6 +60,10 @@ func (n node) compare(other node) int {
 	)
 }
 
+func (n node) isLeftOf(other node) bool {
+	return real(other.scaled(n.at)) < real(n.scaled(other.at))
+}
+
 func (n node) written() string {
 	return fraction(int(real(n.at)), n.part) + " " + fraction(int(imag(n.at)), n.part)
 }

@@ -155,7 +155,7 @@ func edgesOfRings(rings [][]dot) [][2]dot {
 	return edges
 }
 
-func meets(rings [][]dot) string {
+func nodePlaces(rings [][]dot) []place {
 	var places []place
 	edges := edgesOfRings(rings)
 	for _, e := range edges {
@@ -169,9 +169,12 @@ func meets(rings [][]dot) string {
 		}
 	}
 	slices.SortFunc(places, place.compare)
-	places = slices.CompactFunc(places, func(p, q place) bool { return p.compare(q) == 0 })
+	return slices.CompactFunc(places, samePlace)
+}
+
+func meets(rings [][]dot) string {
 	var written []string
-	for _, p := range places {
+	for _, p := range nodePlaces(rings) {
 		written = append(written, p.x.RatString()+" "+p.y.RatString())
 	}
 	return strings.Join(written, ", ")

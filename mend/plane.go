@@ -1,5 +1,7 @@
 package mend
 
+import "cmp"
+
 // Points and ways of the plane are complex numbers with whole parts. Those
 // parts stay below 2^22, even on the way from a point to the farthest node, made
 // greater by that node's part, and the parts of a product of two below 2^45:
@@ -46,6 +48,23 @@ func (l line) leftOf(n node) float64 {
 
 func (l line) parallelTo(other line) bool {
 	return left(l.way, other.way) == 0
+}
+
+// along is 1 if a parallel line goes the same way, -1 if it comes back.
+func (l line) along(other line) int {
+	return cmp.Compare(real(turn(l.way, other.way)), 0)
+}
+
+func (l line) reversed() line {
+	return line{-l.way, -l.shift}
+}
+
+// rising is the line, gone along so that nodes on it rise.
+func (l line) rising() line {
+	if real(l.way) < 0 || real(l.way) == 0 && imag(l.way) < 0 {
+		return l.reversed()
+	}
+	return l
 }
 
 // crossing is the one node of two lines that are not parallel.

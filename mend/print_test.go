@@ -57,6 +57,9 @@ func TestPrintLongIsCheaplyFound(t *testing.T) {
 	if n := testing.AllocsPerRun(10, func() { mend.Nodes(long) }); n != 0 {
 		t.Errorf("P1: Nodes of a long text takes memory %v times", n)
 	}
+	if n := testing.AllocsPerRun(10, func() { mend.Fix(long, 'e') }); n != 0 {
+		t.Errorf("P1: Fix of a long text takes memory %v times", n)
+	}
 }
 
 func TestPrintWrongTokens(t *testing.T) {

@@ -13,22 +13,18 @@ func turnsAround(edges []edge, n node) (int, bool) {
 	return turns, false
 }
 
-// passing counts how the edge, which does not hold the node, crosses the ray
-// from there to the right: 1 upward, -1 downward. Each full turn to the left
-// crosses it upward once more than downward. An end on the ray counts as below
+// passing counts how the edge crosses the ray that goes straight down from the
+// node: 1 to the right, -1 to the left. Each full turn to the left crosses it
+// to the right once more than to the left. An end on the ray counts as left of
 // it, so that a ring which crosses there is counted once, and one which only
-// touches is not.
+// touches is not. An edge that holds the node counts as above it.
 func (e edge) passing(n node) int {
-	fromAbove, toAbove := n.isBelow(e.from), n.isBelow(e.to)
+	fromRight, toRight := n.isLeftOf(node{e.from, 1}), n.isLeftOf(node{e.to, 1})
 	switch {
-	case !fromAbove && toAbove && e.leftOf(n) > 0:
+	case !fromRight && toRight && e.leftOf(n) > 0:
 		return 1
-	case fromAbove && !toAbove && e.leftOf(n) < 0:
+	case fromRight && !toRight && e.leftOf(n) < 0:
 		return -1
 	}
 	return 0
-}
-
-func (n node) isBelow(point complex128) bool {
-	return imag(n.wayFrom(point)) < 0
 }
